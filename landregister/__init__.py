@@ -1,0 +1,1 @@
+"""A register of plots: entries, ranks and notices."""

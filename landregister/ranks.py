@@ -1,0 +1,36 @@
+"""The places of a plot's charges, in order: each a pair, the charge's entry and how much of it."""
+
+
+def all_of(places, charge):
+    return sum([place[1] for place in places if place[0] == charge])
+
+
+def without(places, charge):
+    return [place for place in places if place[0] != charge]
+
+
+def stands_first(places, one, other):
+    for place in places:
+        if place[0] == one:
+            return True
+        if place[0] == other:
+            return False
+    return False
+
+
+# Places are never joined, though neighbours may be of one charge: each stays as much as before.
+def put_ahead(places, one, other):
+    filled = []
+    left = all_of(places, one)
+    for place in places:
+        if place[0] != one and place[0] != other:
+            filled.append(place)
+        else:
+            part = min(left, place[1])
+            filled.extend(shared_place(one, part, other, place[1] - part))
+            left -= part
+    return filled
+
+
+def shared_place(one, part, other, rest):
+    return [place for place in [(one, part), (other, rest)] if place[1] > 0]
