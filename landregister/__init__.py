@@ -1,1 +1,1 @@
-"""A register of plots: entries, ranks and notices."""
+"""A register of plots: entries, ranks, notices, and who may rely on it."""

@@ -1,4 +1,4 @@
-"""The sorts of entries: what each of them needs, and what it does to the sheet of its plot."""
+"""The sorts of entries: what each of them needs, what it does to the sheet of its plot, and what comes true by it."""
 
 from landregister.ranks import put_ahead, stands_first
 
@@ -25,12 +25,34 @@ class Entry:
     def may_be_made(self, sheet):
         return True
 
+    # What is to be kept of the sheet as it is when the entry is made.
+    def settle(self, sheet):
+        pass
 
-# An entry that is handed in with its plot and with the person whom it is for.
+    def take_effect(self, number, sheet):
+        pass
+
+    def enter(self, number, sheet):
+        pass
+
+
+# An entry that is handed in with its plot.
 class PlotEntry(Entry):
-    def __init__(self, day, plot, person):
+    def __init__(self, day, plot):
         Entry.__init__(self, day)
         self.plot = plot
+
+    def is_sound(self, persons, plots):
+        return self.plot < plots
+
+    def plot_among(self, entries):
+        return self.plot
+
+
+# An entry that is handed in with its plot and with the person whom it is for.
+class PersonEntry(PlotEntry):
+    def __init__(self, day, plot, person):
+        PlotEntry.__init__(self, day, plot)
         self.person = person
 
     def is_there(self, persons, plots):
@@ -39,28 +61,33 @@ class PlotEntry(Entry):
     def is_sound(self, persons, plots):
         return self.is_there(persons, plots)
 
-    def plot_among(self, entries):
-        return self.plot
-
 
 # By transfer, charge and notice the giver gives something to the person.
-class Grant(PlotEntry):
+class Grant(PersonEntry):
     def __init__(self, day, plot, giver, person, knows):
-        PlotEntry.__init__(self, day, plot, person)
+        PersonEntry.__init__(self, day, plot, person)
         self.giver = giver
         self.knows = knows
 
-    def is_given(self, persons):
+    def has_its_giver(self, persons):
         return self.giver < persons and self.giver != self.person
 
     def is_sound(self, persons, plots):
-        return self.is_there(persons, plots) and self.is_given(persons)
+        return self.is_there(persons, plots) and self.has_its_giver(persons)
 
     def may_be_made(self, sheet):
         return self.giver == sheet.registered
 
+    def take_effect(self, number, sheet):
+        if sheet.acquires(self.knows):
+            sheet.given[number] = True
+
 
 class Transfer(Grant):
+    def take_effect(self, number, sheet):
+        if sheet.acquires(self.knows):
+            sheet.owner = self.person
+
     def enter(self, number, sheet):
         sheet.registered = self.person
 
@@ -73,7 +100,7 @@ class Charge(Grant):
     def is_sound(self, persons, plots):
         if not 1 <= self.amount <= MOST_AMOUNT:
             return False
-        return self.is_there(persons, plots) and self.is_given(persons)
+        return self.is_there(persons, plots) and self.has_its_giver(persons)
 
     def enter(self, number, sheet):
         sheet.stand(number, self)
@@ -85,7 +112,7 @@ class Notice(Grant):
         sheet.stand(number, self)
 
 
-class Objection(PlotEntry):
+class Objection(PersonEntry):
     def enter(self, number, sheet):
         sheet.stand(number, self)
 
@@ -104,6 +131,15 @@ class Fulfil(Entry):
 
     def may_be_made(self, sheet):
         return self.noted in sheet.standing
+
+    # What was truly given by the notice holds against whoever came to own the plot since; else the person is as one to
+    # whom the giver gives the plot now.
+    def take_effect(self, number, sheet):
+        noted = sheet.standing[self.noted]
+        if self.noted in sheet.given:
+            sheet.owner = noted.person
+        elif noted.giver == sheet.registered and sheet.acquires(self.knows):
+            sheet.owner = noted.person
 
     # An objection is no right in the plot, so it goes on standing.
     def enter(self, number, sheet):
@@ -157,3 +193,31 @@ class Ahead(Entry):
 
     def enter(self, number, sheet):
         sheet.places = put_ahead(sheet.places, self.one, self.other)
+
+
+class Correct(PlotEntry):
+    def __init__(self, day, plot):
+        PlotEntry.__init__(self, day, plot)
+        self.owner = None
+
+    # Who is registered stays so, though it may come to be known later that another one owned the plot.
+    def settle(self, sheet):
+        self.owner = sheet.owner
+
+    def enter(self, number, sheet):
+        sheet.registered = self.owner
+
+
+class Void(Entry):
+    def __init__(self, day, voided):
+        Entry.__init__(self, day)
+        self.voided = voided
+
+    def finds_its_entries(self, entries):
+        return isinstance(entry_at(entries, self.voided), (Transfer, Charge, Notice, Fulfil))
+
+    def plot_among(self, entries):
+        return entries[self.voided].plot_among(entries)
+
+    def may_be_made(self, sheet):
+        return self.voided not in sheet.void

@@ -34,3 +34,15 @@ def put_ahead(places, one, other):
 
 def shared_place(one, part, other, rest):
     return [place for place in [(one, part), (other, rest)] if place[1] > 0]
+
+
+# What each charge gets from a sale, in the order of their first places; one that was not truly given gets nothing, and
+# what would have been its part goes to those behind it.
+def shares(places, given, amount):
+    parts = {}
+    left = amount
+    for place in places:
+        part = min(left, place[1]) if place[0] in given else 0
+        parts[place[0]] = parts.get(place[0], 0) + part
+        left -= part
+    return parts

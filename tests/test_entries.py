@@ -1,8 +1,8 @@
 import unittest
 
 from tests.calling import (
-    ahead, ask, begins, book_behind, charge, fulfil, last, notice, objection, places_behind, standing_behind, strike,
-    transfer)
+    ahead, ask, begins, book_behind, charge, correct, fulfil, last, notice, objection, places_behind, standing_behind,
+    strike, transfer, void)
 
 
 class NumbersTest(unittest.TestCase):
@@ -10,8 +10,8 @@ class NumbersTest(unittest.TestCase):
         calls = [
             begins(5, [0, 1, 2]), transfer(0, 0, 0, 3), charge(1, 1, 1, 4, 50), notice(1, 2, 2, 0),
             objection(2, 0, 1), charge(3, 1, 1, 0, 20), ahead(3, 4, 1), fulfil(5, 2), strike(5, 3, 1),
-            transfer(1000000, 2, 0, 4)]
-        self.assertEqual(ask(*calls), [0] + list(range(9)))
+            void(6, 0), correct(7, 0), void(8, 6), transfer(1000000, 2, 0, 4)]
+        self.assertEqual(ask(*calls), [0] + list(range(12)))
 
     def test_a_refused_entry_has_no_number(self):
         calls = [begins(2, [0]), objection(5, 0, 1), objection(4, 0, 1), transfer(5, 0, 1, 0), objection(5, 0, 0)]
@@ -27,7 +27,7 @@ class NumbersTest(unittest.TestCase):
     def test_the_fortieth_may_be_of_any_sort(self):
         start = [begins(4, [0]), charge(0, 0, 0, 1, 5), charge(0, 0, 0, 2, 5), notice(0, 0, 0, 3)]
         for entry in (transfer(1, 0, 0, 1), charge(1, 0, 0, 1, 1), notice(1, 0, 0, 1), fulfil(1, 2),
-                      objection(1, 0, 0), strike(1, 0, 1), ahead(1, 1, 0)):
+                      objection(1, 0, 0), strike(1, 0, 1), ahead(1, 1, 0), correct(1, 0), void(1, 2)):
             self.assertEqual(last(*start, *[objection(1, 0, 0)] * 36, entry), 39, entry)
             self.assertEqual(last(*start, *[objection(1, 0, 0)] * 37, entry), -5, entry)
 
